@@ -1,5 +1,6 @@
 """The interface as the document lists it, its examples, and rules of the language that a text shows."""
 import ast
+import doctest
 import inspect
 import os
 import subprocess
@@ -9,8 +10,12 @@ import warnings
 from importlib import import_module
 
 import wordweight
+from wordweight.errors import NoText
 from wordweight.linear import Matrix
+from wordweight.machine import letter
+from wordweight.meaning import weight
 from wordweight.ratio import Ratio, read_ratio
+from wordweight.text import read, show
 from wordweight.words import Alphabet, divisions, sortings
 
 FOLDER = os.path.dirname(os.path.abspath(wordweight.__file__))
@@ -51,6 +56,26 @@ INTERFACE = {
         },
         "cuts": "(word)", "divisions": "(word)", "sortings": "(word)",
     },
+    "machine": {
+        "Machine": {
+            "__init__": "(self, alphabet, row, matrices, column)", "size": "(self)", "__eq__": "(self, other)",
+            "weight": "(self, word)", "__call__": "(self, word)", "row_after": "(self, word)",
+            "column_before": "(self, word)", "__add__": "(self, other)", "__sub__": "(self, other)",
+            "__neg__": "(self)", "scaled": "(self, q)", "transposed": "(self)", "changed": "(self, p, q)",
+            "weighted_words": "(self, most)",
+        },
+        "null": "(alphabet)", "constant": "(alphabet, q)", "letter": "(alphabet, a)",
+    },
+    "expression": {
+        "Expression": {
+            "__add__": "(self, other)", "__mul__": "(self, other)", "__and__": "(self, other)",
+            "__xor__": "(self, other)", "__eq__": "(self, other)", "star": "(self)", "reverse": "(self)",
+            "left": "(self, u)", "right": "(self, u)", "depth": "(self)", "count": "(self)", "used_letters": "(self)",
+        },
+        "number": "(q)", "letter_of": "(a)", "word_of": "(u)", "is_expression": "(value)",
+    },
+    "text": {"read": "(text)", "show": "(e)"},
+    "meaning": {"weight": "(e, word)", "empty_weight": "(e)", "is_defined": "(e)"},
 }
 
 
@@ -107,6 +132,24 @@ class Examples(unittest.TestCase):
         self.assertEqual([w for w in Alphabet("ba").words(2)], ["", "b", "a", "bb", "ba", "ab", "aa"])
         self.assertEqual(divisions("abc"), [("abc",), ("ab", "c"), ("a", "bc"), ("a", "b", "c")])
         self.assertEqual(sortings("ab"), [("", "ab"), ("a", "b"), ("b", "a"), ("ab", "")])
+        self.assertEqual(str(letter(Alphabet("ab"), "b").weight("b")), "1")
+
+    def test_of_the_document_on_expressions(self):
+        self.assertEqual(show(read("(a+b) *(2 a)")), "(a + b)* (2 a)")
+        self.assertEqual(str(weight(read("(a + 2 b)*"), "abb")), "4")
+        self.assertEqual(str(weight(read("a # a"), "aa")), "2")
+        with self.assertRaises(NoText) as caught:
+            read("a + + b")
+        self.assertEqual(caught.exception.at, 4)
+
+
+    def test_of_the_readme(self):
+        with open(os.path.join(os.path.dirname(FOLDER), "README.md"), encoding="utf-8") as file:
+            text = file.read().replace("```", "")
+        test = doctest.DocTestParser().get_doctest(text, {}, "README.md", None, 0)
+        self.assertGreater(len(test.examples), 10)
+        result = doctest.DocTestRunner(verbose=False).run(test, out=lambda _: None)
+        self.assertEqual(result.failed, 0)
 
 
 class Files(unittest.TestCase):
