@@ -1,4 +1,5 @@
 """Values and small builders that several tests use."""
+from fractions import Fraction
 from itertools import product
 
 from wordweight.errors import Fault, Malformed, NoText, Refused, ZeroDivisor
@@ -84,3 +85,85 @@ def any_expression(choices, depth):
         return (e.star(), e.reverse(), e.left(word), e.right(word))[kind - 6]
     f = any_expression(choices, depth - 1)
     return (e + f, e * f, e & f, e ^ f)[kind - 2]
+
+
+def all_words(letters, most):
+    """All words over the letters up to a length, in their order."""
+    return ["".join(word) for length in range(most + 1) for word in product(letters, repeat=length)]
+
+
+def fraction(q):
+    """The Fraction of a Ratio."""
+    return Fraction(q.n, q.d)
+
+
+def series(machine):
+    """The function from words to Fractions, from the numbers of the machine alone; the rows are kept."""
+    matrices = {a: [[fraction(q) for q in row] for row in matrix.rows]
+                for a, matrix in zip(machine.alphabet.letters, machine.matrices)}
+    column = [fraction(q) for q in machine.column]
+    rows = {"": [fraction(q) for q in machine.row]}
+
+    def row_after(word):
+        if word not in rows:
+            found = [Fraction(0)] * len(column)
+            for x, row in zip(row_after(word[:-1]), matrices[word[-1]]):
+                if x != 0:
+                    found = [y + x * z if z != 0 else y for y, z in zip(found, row)]
+            rows[word] = found
+        return rows[word]
+    return lambda word: sum((x * y for x, y in zip(row_after(word), column) if x != 0), Fraction(0))
+
+
+def weight_of(machine, word):
+    """The weight of a word as a Fraction."""
+    return series(machine)(word)
+
+
+def combination(vectors, goal):
+    """The multiples of the vectors (of Fractions) that add up to the goal, or None if there are none.
+
+    If the vectors are dependent, these are any such multiples.
+    """
+    rows = [[vector[at] for vector in vectors] + [item] for at, item in enumerate(goal)]
+    places = []
+    for column in range(len(vectors)):
+        at = next((at for at in range(len(places), len(rows)) if rows[at][column] != 0), None)
+        if at is not None:
+            lead = len(places)
+            rows[lead], rows[at] = rows[at], rows[lead]
+            rows[lead] = [item / rows[lead][column] for item in rows[lead]]
+            for other in range(len(rows)):
+                if other != lead:
+                    factor = rows[other][column]
+                    rows[other] = [x - factor * y for x, y in zip(rows[other], rows[lead])]
+            places.append(column)
+    if any(row[-1] != 0 for row in rows[len(places):]):
+        return None
+    found = [Fraction(0)] * len(vectors)
+    for row, column in zip(rows, places):
+        found[column] = row[-1]
+    return found
+
+
+def chosen(words, vectors):
+    """The words whose vector is no combination of the vectors of those chosen before, and these vectors."""
+    found, basis, leads = [], [], []
+    for word, each in zip(words, vectors):
+        rest = each
+        for place, lead in leads:
+            if rest[place] != 0:
+                factor = rest[place]
+                rest = [x - factor * y if y != 0 else x for x, y in zip(rest, lead)]
+        place = next((at for at, x in enumerate(rest) if x != 0), None)
+        if place is not None:
+            leads.append((place, [x / rest[place] for x in rest]))
+            found.append(word)
+            basis.append(each)
+    return found, basis
+
+
+def numbers_machine(letters, row, matrices, column):
+    """A machine from integers and strings such as -1/2; each matrix is a list of rows."""
+    size = len(row)
+    return Machine(Alphabet(letters), vector(*row), [matrix(*rows, width=size) for rows in matrices], vector(*column))

@@ -4,7 +4,8 @@ from wordweight.ratio import Ratio, one, total, zero
 
 def dot(a, b):
     """Returns the product of two vectors of the same length."""
-    return total([x * y for x, y in zip(a, b)])
+    # Most items of machines are zero, and to look at them is cheaper than to count with them.
+    return total([x * y for x, y in zip(a, b) if x.n != 0 and y.n != 0])
 
 
 def combine(rows, width, weights):
@@ -12,7 +13,7 @@ def combine(rows, width, weights):
     found = [zero()] * width
     for row, weight in zip(rows, weights):
         if not weight.is_zero():
-            found = [x + weight * y for x, y in zip(found, row)]
+            found = [x if y.n == 0 else x + weight * y for x, y in zip(found, row)]
     return tuple(found)
 
 
@@ -143,7 +144,7 @@ def _cleared(row, lead, column):
     factor = row[column]
     if factor.is_zero():
         return row
-    return [x - factor * y for x, y in zip(row, lead)]
+    return [x if y.n == 0 else x - factor * y for x, y in zip(row, lead)]
 
 
 def _placed(items, places, width):
