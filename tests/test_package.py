@@ -76,6 +76,28 @@ INTERFACE = {
     },
     "text": {"read": "(text)", "show": "(e)"},
     "meaning": {"weight": "(e, word)", "empty_weight": "(e)", "is_defined": "(e)"},
+    "deeds": {
+        "product": "(f, g)", "hadamard": "(f, g)", "shuffle": "(f, g)", "star": "(f)", "left_quotient": "(f, word)",
+        "right_quotient": "(f, word)", "power": "(f, k)", "substitute": "(f, table)", "is_proper": "(f)",
+        "word_machine": "(alphabet, word)",
+    },
+    "build": {"build": "(expression, alphabet, *, most=60)"},
+    "unbuild": {"unbuild": "(machine)"},
+    "forms": {
+        "seen_words": "(machine)", "kept_words": "(machine)", "least_form": "(machine)", "is_zero": "(machine)",
+        "rank": "(machine)",
+    },
+    "differ": {"difference": "(one, two)", "compare": "(one, two)", "agree": "(one, two)"},
+    "table": {"table": "(machine, us, vs)", "show_least": "(machine)"},
+    "checker": {"takes_agreement": "(one, two, paper)", "takes_least": "(machine, paper)"},
+    "poly": {
+        "Poly": {
+            "__init__": "(self, row)", "__iter__": "(self)", "__eq__": "(self, other)", "__add__": "(self, other)",
+            "__sub__": "(self, other)", "__mul__": "(self, other)", "__str__": "(self)", "degree": "(self)",
+            "is_zero": "(self)", "coefficient": "(self, k)", "value": "(self, a)", "divide": "(self, q)",
+        },
+        "common_divisor": "(p, q)",
+    },
 }
 
 
