@@ -27,7 +27,7 @@ class Poly:
         return Poly([self.coefficient(k) - other.coefficient(k) for k in range(many)])
 
     def __mul__(self, other):
-        found = [zero()] * (len(self.row) + len(other.row))
+        found = [zero() for _ in range(len(self.row) + len(other.row))]
         for i, x in enumerate(self.row):
             for j, y in enumerate(other.row):
                 found[i + j] = found[i + j] + x * y
