@@ -6,6 +6,8 @@ from wordweight.errors import Fault, Malformed, NoText, Refused, ZeroDivisor
 from wordweight.expression import letter_of, number
 from wordweight.linear import Matrix
 from wordweight.machine import Machine, constant, letter, null
+from wordweight.plain import Plain
+from wordweight.poly import Poly
 from wordweight.ratio import Ratio
 from wordweight.words import Alphabet
 
@@ -21,6 +23,8 @@ VALUES = (
     null(Alphabet("a")), null(Alphabet("ab")), constant(Alphabet("ab"), Ratio(1)), letter(Alphabet("ab"), "a"),
     number(0), number(1), letter_of("a"), letter_of("a") + letter_of("b"), letter_of("a").star(), (letter_of("a"),),
     letter_of("a").left("ab"), ["number", (Ratio(1),)], ("letter", ("a",)),
+    Poly([]), Poly([0, 1]), (Poly([1]),), Plain(Alphabet("ab"), 0), Plain(Alphabet("ab"), 1, ends=(0,)),
+    Plain(Alphabet("ab"), 2, ends=(1,), moves=((0, "a", 1), (1, "b", 1))),
     Fault("x"), Malformed("x"), ZeroDivisor("x"), Refused("letter"), NoText(0),
 )
 
@@ -46,6 +50,29 @@ class Choices:
             return [ratio(self.of((0, 0, 1, -1, 2, "1/2", "-3/2"))) for _ in range(many)]
         matrices = [Matrix([numbers(size) for _ in range(size)], size) for _ in letters]
         return Machine(Alphabet(letters), numbers(size), matrices, numbers(size))
+
+
+    def plain(self, letters, size):
+        """A plain machine over the letters with few moves."""
+        def some():
+            return [i for i in range(size) if self.below(3) == 0]
+        many = self.below(size * len(letters) * 2 + 1)
+        moves = [(self.below(size), self.of(letters), self.below(size)) for _ in range(many)]
+        return Plain(Alphabet(letters), size, starts=some() or [0], ends=some(), moves=moves)
+
+    def determined(self, letters, size):
+        """A determined plain machine over the letters."""
+        moves = [(i, letter, self.below(size)) for i in range(size) for letter in letters]
+        ends = [i for i in range(size) if self.below(2) == 0]
+        return Plain(Alphabet(letters), size, starts=[self.below(size)], ends=ends, moves=moves)
+
+
+def runs_of(a, word):
+    """The list of the runs of a plain machine on a word, found by going on from each start in every way."""
+    found = [(i,) for i in a.starts]
+    for letter in word:
+        found = [run + (j,) for run in found for i, x, j in a.moves if (i, x) == (run[-1], letter)]
+    return [run for run in found if run[-1] in a.ends]
 
 
 def vector(*numbers):

@@ -14,7 +14,9 @@ from wordweight.errors import NoText
 from wordweight.linear import Matrix
 from wordweight.machine import letter
 from wordweight.meaning import weight
+from wordweight.plain import Plain
 from wordweight.ratio import Ratio, read_ratio
+from wordweight.subsets import least_machine
 from wordweight.text import read, show
 from wordweight.words import Alphabet, divisions, sortings
 
@@ -98,6 +100,24 @@ INTERFACE = {
         },
         "common_divisor": "(p, q)",
     },
+    "lengths": {
+        "length_sums": "(machine, count)", "length_quotient": "(machine)", "recurrence": "(machine)",
+        "total": "(machine)", "least_length": "(one, two)",
+    },
+    "plain": {
+        "Plain": {
+            "__init__": "(self, alphabet, size, *, starts=(0,), ends=(), moves=())", "__len__": "(self)",
+            "__contains__": "(self, x)", "__eq__": "(self, other)", "__str__": "(self)", "runs": "(self, word)",
+            "is_determined": "(self)", "joined": "(self, b)", "common": "(self, b)", "without": "(self, b)",
+            "complement": "(self)", "turned": "(self)", "words": "(self, most)",
+        },
+        "read_plain": "(alphabet, text)",
+    },
+    "subsets": {
+        "subset_machine": "(a)", "least_machine": "(a)", "counting": "(a)", "characteristic": "(a)",
+        "alike": "(a, b)", "shows_alike": "(a, b, pairs)", "unambiguous": "(a)",
+    },
+    "packing": {"packed": "(value)", "unpacked": "(data)", "written": "(data)", "read_data": "(text)"},
 }
 
 
@@ -164,6 +184,11 @@ class Examples(unittest.TestCase):
             read("a + + b")
         self.assertEqual(caught.exception.at, 4)
 
+    def test_of_the_document_on_plain_machines(self):
+        a = Plain(Alphabet("ab"), 2, starts=(0,), ends=(1,), moves=((0, "a", 1), (1, "b", 1)))
+        self.assertEqual(str(a), "2; 0; 1; 0a1 1b1")
+        self.assertTrue("abb" in a)
+        self.assertEqual(str(least_machine(a)), "3; 0; 1; 0a1 0b2 1a2 1b1 2a2 2b2")
 
     def test_of_the_readme(self):
         with open(os.path.join(os.path.dirname(FOLDER), "README.md"), encoding="utf-8") as file:
