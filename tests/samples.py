@@ -9,6 +9,7 @@ from wordweight.machine import Machine, constant, letter, null
 from wordweight.plain import Plain
 from wordweight.poly import Poly
 from wordweight.ratio import Ratio
+from wordweight.replies import Reply
 from wordweight.words import Alphabet
 
 # Values of every kind that the document counts as "every value".
@@ -25,6 +26,7 @@ VALUES = (
     letter_of("a").left("ab"), ["number", (Ratio(1),)], ("letter", ("a",)),
     Poly([]), Poly([0, 1]), (Poly([1]),), Plain(Alphabet("ab"), 0), Plain(Alphabet("ab"), 1, ends=(0,)),
     Plain(Alphabet("ab"), 2, ends=(1,), moves=((0, "a", 1), (1, "b", 1))),
+    Reply("done"), Reply("number", "1", (Ratio(1),)), ("least a", Reply("done")), ["", Reply("done")], ("", "done", ()),
     Fault("x"), Malformed("x"), ZeroDivisor("x"), Refused("letter"), NoText(0),
 )
 

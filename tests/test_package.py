@@ -10,6 +10,7 @@ import warnings
 from importlib import import_module
 
 import wordweight
+from wordweight.console import Console
 from wordweight.errors import NoText
 from wordweight.linear import Matrix
 from wordweight.machine import letter
@@ -118,6 +119,20 @@ INTERFACE = {
         "alike": "(a, b)", "shows_alike": "(a, b, pairs)", "unambiguous": "(a)",
     },
     "packing": {"packed": "(value)", "unpacked": "(data)", "written": "(data)", "read_data": "(text)"},
+    "sheet": {
+        "full_text": "(names, text)", "read_line": "(alphabet, names, line)", "machine_text": "(machine)",
+    },
+    "replies": {
+        "Reply": {"__init__": "(self, kind, text='', data=())", "__eq__": "(self, other)"},
+        "reply_to": "(alphabet, names, line)", "is_right": "(alphabet, names, entry)",
+    },
+    "log": {"write_log": "(entries)", "read_log": "(text)", "first_wrong": "(alphabet, entries)"},
+    "console": {
+        "Console": {
+            "__init__": "(self, letters, *, most=1000)", "enter": "(self, line)", "__len__": "(self)",
+            "__iter__": "(self)", "names": "(self)", "log": "(self)",
+        },
+    },
 }
 
 
@@ -189,6 +204,12 @@ class Examples(unittest.TestCase):
         self.assertEqual(str(a), "2; 0; 1; 0a1 1b1")
         self.assertTrue("abb" in a)
         self.assertEqual(str(least_machine(a)), "3; 0; 1; 0a1 0b2 1a2 1b1 2a2 2b2")
+
+    def test_of_the_document_on_the_console(self):
+        console = Console("ab")
+        self.assertEqual(console.enter("let S = (a + 2 b)*").kind, "done")
+        self.assertEqual(console.enter("weight S ; abb").text, "4")
+        self.assertEqual(console.enter("compare S ; (a + b)*").text, "b")
 
     def test_of_the_readme(self):
         with open(os.path.join(os.path.dirname(FOLDER), "README.md"), encoding="utf-8") as file:

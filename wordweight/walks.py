@@ -12,7 +12,8 @@ def walked(start, nexts):
     rows = []
     while len(rows) < len(found):
         row = []
-        for thing in nexts(found[len(rows)]):
+        nearby = nexts(found[len(rows)])
+        for thing in nearby:
             if thing not in numbers:
                 numbers[thing] = len(found)
                 found.append(thing)
