@@ -146,6 +146,16 @@ class Recurrences(unittest.TestCase):
                 columns = [sums[length - 1 - i:len(sums) - 1 - i] for i in range(length)]
                 self.assertIsNone(combination(columns, sums[length:]))
 
+    def test_larger_machines(self):
+        choices = Choices(132)
+        for size in (8, 12, 20):
+            machine = choices.machine("ab", size)
+            found = plain(recurrence(machine))
+            self.assertEqual(len(found), size)
+            sums = fast_sums(machine, 2 * size + 6)
+            for k in range(size, len(sums)):
+                self.assertEqual(sums[k], sum((b * sums[k - 1 - i] for i, b in enumerate(found)), Fraction(0)))
+
     def test_as_they_stand(self):
         self.assertEqual(recurrence(word_machine(AB, "abab")), vector(0, 0, 0, 0, 0))
         self.assertEqual(recurrence(constant(AB, Ratio(3))), vector(0))

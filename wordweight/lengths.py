@@ -1,38 +1,51 @@
 """Sums of the weights of all words of one length, and the quotient of polynomials that has them as coefficients."""
-from wordweight.forms import least_form
 from wordweight.linear import dot, nothing
-from wordweight.machine import Machine
 from wordweight.poly import Poly
 from wordweight.ratio import Ratio
-from wordweight.words import Alphabet
-
-
-def _one_letter(machine):
-    """Returns a machine over one letter; it gives each word the length sum of the machine for its length."""
-    whole = nothing(machine.size(), machine.size())
-    for matrix in machine.matrices:
-        whole = whole + matrix
-    return Machine(Alphabet("a"), machine.row, [whole], machine.column)
 
 
 def length_sums(machine, count):
     """Returns the sums of the weights of all words of the lengths from 0 to count - 1."""
-    counter = _one_letter(machine)
-    row = counter.row
+    whole = nothing(machine.size(), machine.size())
+    for matrix in machine.matrices:
+        whole = whole + matrix
+    row = machine.row
     found = []
     for _ in range(count):
-        found.append(dot(row, counter.column))
-        row = counter.matrices[0].before(row)
+        found.append(dot(row, machine.column))
+        row = whole.before(row)
     return tuple(found)
 
 
 def recurrence(machine):
     """Returns the coefficients (b_1, .., b_l) of the least recurrence of the length sums."""
-    least = least_form(_one_letter(machine))
-    if least.size() == 0:
-        return ()
-    # Its states stand for the sums from the lengths 0, .., l - 1 on. The last row combines them to those from l on.
-    return least.matrices[0].rows[-1][::-1]
+    # A recurrence of at most as many coefficients as the size, that holds up to twice the size, holds for all sums.
+    q, length = _least(length_sums(machine, 2 * machine.size()))
+    return tuple([-q.coefficient(k) for k in range(1, length + 1)])
+
+
+def _least(sums):
+    """Returns q = 1 - b_1 x - .. of the least recurrence of the sums, and its length (the way of Berlekamp and Massey).
+
+    A recurrence that fails at a sum is mended there by the one that was given up last, multiplied by a power of x:
+    this one failed somewhere, too, and what both miss is taken away. Linear equations would need larger numbers.
+    """
+    q, length = Poly([1]), 0
+    older, missed, shift = Poly([1]), Ratio(1), 1
+    for k in range(len(sums)):
+        gap = dot(q.row, sums[k::-1])
+        if gap.is_zero():
+            shift = shift + 1
+        else:
+            factor = gap.over(missed)
+            mended = q - Poly([0] * shift + [factor * item for item in older])
+            if 2 * length > k:
+                shift = shift + 1
+            else:
+                length = k + 1 - length
+                older, missed, shift = q, gap, 1
+            q = mended
+    return (q, length)
 
 
 def length_quotient(machine):
